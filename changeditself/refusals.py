@@ -1,0 +1,7 @@
+"""The numbers that are answered alone where a call is refused."""
+
+NO_SUCH = -2
+NOT_BEGUN = -11
+NOT_AS_TOLD = -22
+FULL = -28
+NO_ACT = -33
