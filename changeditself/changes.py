@@ -1,10 +1,11 @@
 """The calls that make the house and change its acts.
 
-A change is made on a copy of a place's acts, which takes their place only when nothing refuses it.
+A change is made on a copy of a place's acts, which stays in their place only if every promise is kept then.
 """
 
 from changeditself.house import MOST_ACTS, Act, furnish, has_act, has_place
-from changeditself.refusals import FULL, NO_SUCH, NOT_AS_TOLD
+from changeditself.promises import all_are_kept
+from changeditself.refusals import FULL, NO_SUCH, NOT_AS_TOLD, NOT_KEPT
 from changeditself.twins import is_lonely, twin_of
 
 BEGIN = 0
@@ -49,6 +50,16 @@ def is_act_row(house, row):
     return all_between(pays, -9, 9) and all_between(weights, 0, 9) and sum(weights) > 0
 
 
+def settle(house, place, acts, answer):
+    """Let the acts be those of the place, and answer so, if every promise is kept then."""
+    before = house.acts[place]
+    house.acts[place] = acts
+    if all_are_kept(house):
+        return [answer]
+    house.acts[place] = before
+    return [NOT_KEPT]
+
+
 def put_act(house, place, row):
     if not has_place(house, place):
         return [NO_SUCH]
@@ -58,8 +69,7 @@ def put_act(house, place, row):
     if len(acts) == MOST_ACTS:
         return [FULL]
     acts.append(Act(row[:house.selves], row[house.selves:], 0, 0))
-    house.acts[place] = acts
-    return [len(acts) - 1]
+    return settle(house, place, acts, len(acts) - 1)
 
 
 def take_act(house, place, number):
@@ -67,8 +77,7 @@ def take_act(house, place, number):
         return [NO_SUCH]
     acts = list(house.acts[place])
     acts.pop(number)
-    house.acts[place] = acts
-    return [len(acts)]
+    return settle(house, place, acts, len(acts))
 
 
 def set_turn(house, place, number, turn):
@@ -79,8 +88,7 @@ def set_turn(house, place, number, turn):
     acts = list(house.acts[place])
     old = acts[number]
     acts[number] = Act(old.pays, old.weights, turn, old.locks)
-    house.acts[place] = acts
-    return [old.turn]
+    return settle(house, place, acts, old.turn)
 
 
 def set_lock(house, place, number, locks):
@@ -91,8 +99,7 @@ def set_lock(house, place, number, locks):
     acts = list(house.acts[place])
     old = acts[number]
     acts[number] = Act(old.pays, old.weights, old.turn, locks)
-    house.acts[place] = acts
-    return [old.locks]
+    return settle(house, place, acts, old.locks)
 
 
 def add_twins(house, place):
@@ -104,5 +111,4 @@ def add_twins(house, place):
         # A twin put down just now may be the twin of a later act too.
         if is_lonely(act, acts) and len(acts) < MOST_ACTS:
             acts.append(twin_of(act))
-    house.acts[place] = acts
-    return [len(acts) - len(there)]
+    return settle(house, place, acts, len(acts) - len(there))

@@ -1,6 +1,7 @@
 """What is done with so many steps left, and what it brings by each self's lights.
 
-A table of worths holds, for each stand, a fraction for each self: the stand's worth by that one's lights.
+A table of worths holds, for each stand, a fraction for each self: the stand's worth by that one's lights. Where a table
+is called later, it is the one with one step less.
 """
 
 from changeditself.house import stand_behind
@@ -16,16 +17,20 @@ def all_stands(house):
     return stands
 
 
-def brings(act, stand, later, lights):
-    """What the act brings by a self's lights; later is the table of worths with one step less."""
+def mean_behind(act, stand, table, who):
+    """In the mean, the self's fraction in the table, of how one stands behind the act."""
     upper = 0
     lower = 1
     for place, weight in enumerate(act.weights):
-        worth = later[stand_behind(act, stand, place)][lights]
-        upper = upper * worth[1] + weight * worth[0] * lower
-        lower = lower * worth[1]
-    lower = lower * sum(act.weights)
-    return lowest(act.pays[lights] * lower + upper, lower)
+        there = table[stand_behind(act, stand, place)][who]
+        upper = upper * there[1] + weight * there[0] * lower
+        lower = lower * there[1]
+    return lowest(upper, lower * sum(act.weights))
+
+
+def brings(act, stand, later, lights):
+    mean = mean_behind(act, stand, later, lights)
+    return (act.pays[lights] * mean[1] + mean[0], mean[1])
 
 
 def best_act(acts, stand, later):
@@ -40,16 +45,23 @@ def best_act(acts, stand, later):
     return best
 
 
+def act_done(house, stand, later):
+    """The act that is done there, or None where there are none."""
+    acts = house.acts[stand[0]]
+    if len(acts) == 0:
+        return None
+    return acts[best_act(acts, stand, later)]
+
+
 def nothing_brought(house):
     return [(0, 1) for who in range(house.selves)]
 
 
 def worths_there(house, stand, later):
-    acts = house.acts[stand[0]]
-    if len(acts) == 0:
+    act = act_done(house, stand, later)
+    if act is None:
         return nothing_brought(house)
-    done = acts[best_act(acts, stand, later)]
-    return [brings(done, stand, later, lights) for lights in range(house.selves)]
+    return [brings(act, stand, later, lights) for lights in range(house.selves)]
 
 
 def one_step_more(house, later):
@@ -59,16 +71,17 @@ def one_step_more(house, later):
     return table
 
 
+def worth_tables(house, steps):
+    """The tables of worths with 0, 1, and so on to so many steps left."""
+    ended = {}
+    for stand in all_stands(house):
+        ended[stand] = nothing_brought(house)
+    tables = [ended]
+    for step in range(steps):
+        tables.append(one_step_more(house, tables[step]))
+    return tables
+
+
 def worth_table(house, steps):
     """The table of worths with so many steps left."""
-    table = {}
-    for stand in all_stands(house):
-        table[stand] = nothing_brought(house)
-    for step in range(steps):
-        table = one_step_more(house, table)
-    return table
-
-
-def act_done(house, stand, steps):
-    """The number of the act that is done there; there are acts, and 1 or more steps left."""
-    return best_act(house.acts[stand[0]], stand, worth_table(house, steps - 1))
+    return worth_tables(house, steps)[steps]

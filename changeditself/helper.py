@@ -1,14 +1,12 @@
 """The answers to a list of calls on one house, which is new at the list's beginning."""
 
 from changeditself.changes import ADDTWINS, BEGIN, answer_change
-from changeditself.going import GO, go
+from changeditself.going import RUN, answer_going
 from changeditself.house import House, is_begun
+from changeditself.promising import answer_promising
 from changeditself.questions import LONELY, answer_question
 from changeditself.refusals import NOT_BEGUN
-
-
-class NotBuilt(Exception):
-    """A call that the document tells, and that this program does not answer yet."""
+from changeditself.telling import STILL, answer_telling
 
 
 def answer_call(house, number, given):
@@ -18,9 +16,11 @@ def answer_call(house, number, given):
         return answer_change(house, number, given)
     if number <= LONELY:
         return answer_question(house, number, given)
-    if number == GO:
-        return go(house, given[0], given[1])
-    raise NotBuilt(f"call {number} is not built yet")
+    if number <= RUN:
+        return answer_going(house, number, given)
+    if number <= STILL:
+        return answer_telling(house, number, given)
+    return answer_promising(house, number, given)
 
 
 def answers(calls):

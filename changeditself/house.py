@@ -1,11 +1,14 @@
-"""The house: its places, selves and acts, how the helper stands, and what it did.
+"""The house: its places, selves and acts, how the helper stands, what it did, and what is promised.
 
 A stand is a tuple: the place, the self, and 1 if it is locked, else 0.
+A promise is a tuple: its kind, then by whose lights, of which self, at which place, with how many steps, and how much
+at least; 0 for what its kind hasn't.
 """
 
 MOST_ACTS = 3
 MOST_STEPS = 4
 MOST_ENTRIES = 16
+MOST_PROMISES = 4
 
 
 class Act:
@@ -38,6 +41,7 @@ class House:
         self.acts = []
         self.stand = (0, 0, 0)
         self.log = []
+        self.promises = []
 
 
 def furnish(house, places, selves):
@@ -47,6 +51,7 @@ def furnish(house, places, selves):
     house.acts = [[] for place in range(places)]
     house.stand = (0, 0, 0)
     house.log = []
+    house.promises = []
 
 
 def is_begun(house):
@@ -63,6 +68,11 @@ def has_self(house, who):
 
 def has_act(house, place, number):
     return has_place(house, place) and number < len(house.acts[place])
+
+
+def may_go(steps):
+    """Whether it may go with so many steps left."""
+    return 1 <= steps <= MOST_STEPS
 
 
 def stand_behind(act, stand, place):

@@ -1,7 +1,7 @@
 """The calls that put the helper somewhere, and those that only ask."""
 
-from changeditself.foresight import act_done, worth_table
-from changeditself.house import MOST_STEPS, has_place, has_self
+from changeditself.foresight import best_act, worth_table
+from changeditself.house import MOST_STEPS, has_place, has_self, may_go
 from changeditself.ratio import difference
 from changeditself.refusals import NO_ACT, NO_SUCH, NOT_AS_TOLD
 from changeditself.twins import lonely_acts
@@ -45,11 +45,12 @@ def tell_stand(house):
 def tell_act(house, place, who, locked, steps):
     if not has_place(house, place) or not has_self(house, who):
         return [NO_SUCH]
-    if locked > 1 or not 1 <= steps <= MOST_STEPS:
+    if locked > 1 or not may_go(steps):
         return [NOT_AS_TOLD]
-    if len(house.acts[place]) == 0:
+    acts = house.acts[place]
+    if len(acts) == 0:
         return [NO_ACT]
-    return [act_done(house, (place, who, locked), steps)]
+    return [best_act(acts, (place, who, locked), worth_table(house, steps - 1))]
 
 
 def tell_lights(house, place, who, locked, steps):

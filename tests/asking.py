@@ -63,6 +63,58 @@ def go(k, luck):
     return call(12, k, luck)
 
 
+def ifgo(k, luck):
+    return call(13, k, luck)
+
+
+def run(k, *row):
+    return call(14, k, *row)
+
+
+def entry(i):
+    return call(15, i)
+
+
+def paid():
+    return call(16)
+
+
+def became():
+    return call(17)
+
+
+def still(k):
+    return call(18, k)
+
+
+def promisenever(s, k):
+    return call(19, s, k)
+
+
+def promisestay(s, p, k):
+    return call(20, s, p, k)
+
+
+def promiseworth(u, s, p, k, *row):
+    return call(21, u, s, p, k, *row)
+
+
+def promiseis(i):
+    return call(22, i)
+
+
+def unpromise(i):
+    return call(23, i)
+
+
+def holds(w, s, p, k):
+    return call(24, w, s, p, k)
+
+
+def count():
+    return call(25)
+
+
 def joined(calls):
     return [number for one in calls for number in one]
 

@@ -1,5 +1,5 @@
-from asking import (LARGEST, AskCase, act, ask, begin, call, does, go, lights, lock, lonely, stand, turn,
-                    unact, who)
+from asking import (LARGEST, AskCase, act, ask, became, begin, call, count, does, entry, go, lights, lock, lonely, paid,
+                    promiseis, promisenever, stand, turn, unact, who)
 
 # Each call but begin, as the interface writes it, with numbers that would be taken or refused otherwise.
 OTHERS = [
@@ -56,18 +56,23 @@ class NotBegunTest(AskCase):
 
 
 class BeginAgainTest(AskCase):
-    made = [begin(2, 2), act(0, 4, 1, 1, 0), turn(0, 0, 2), lock(0, 0, 1), go(1, 0)]
+    made = [begin(2, 2), act(0, 4, 1, 1, 0), turn(0, 0, 2), lock(0, 0, 1), go(1, 0), promisenever(1, 4)]
 
     def test_all_is_new(self):
         self.check(self.made, (who(), [0, 0, 1, 1]), (begin(3, 1), [0]), (who(), [0, 0, 0, 0]),
                    (does(0, 0, 0, 1), [-33]), (lights(0, 0, 0, 4), [1, 0, 1]), (lonely(), [0]),
+                   (count(), [4, 3, 1, 0, 0]), (entry(0), [-2]), (paid(), [0, 0]), (became(), [0]),
+                   (promiseis(0), [-2]),
                    (stand(2, 0, 0), [0, 0, 0, 0]), (stand(0, 1, 0), [-2]),
                    (act(0, 1, 0, 0, 1), [0]), (turn(0, 0, 0), [0]), (lock(0, 0, 0), [0]))
 
     def test_with_the_same_numbers_too(self):
-        self.check(self.made, (begin(2, 2), [0]), (who(), [0, 0, 0, 0]), (unact(0, 0), [-2]))
+        self.check(self.made, (count(), [4, 2, 2, 1, 1]), (begin(2, 2), [0]), (who(), [0, 0, 0, 0]),
+                   (unact(0, 0), [-2]), (count(), [4, 2, 2, 0, 0]))
 
     def test_a_refused_one_changes_nothing(self):
         for wrong in (begin(1, 2), begin(5, 2), begin(3, 0), begin(3, 4)):
             self.check(self.made, (wrong, [-22]), (who(), [0, 0, 1, 1]), (lonely(), [1, 0, 0]),
-                       (lights(0, 0, 1, 1), [2, 4, 1, 1, 1]), (turn(0, 0, 0), [2]), (lock(0, 0, 0), [1]))
+                       (lights(0, 0, 1, 1), [2, 4, 1, 1, 1]), (turn(0, 0, 0), [2]), (lock(0, 0, 0), [1]),
+                       (count(), [4, 2, 2, 1, 1]), (entry(0), [0, 1, 0, 0, 0, 0, 1, 1]), (paid(), [1, 4, 1]),
+                       (promiseis(0), [0, 0, 1, 0, 4, 0]))

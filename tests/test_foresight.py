@@ -1,7 +1,5 @@
 from asking import LARGEST, AskCase, act, addtwins, begin, cost, does, lights, lock, stand, turn, unact, who
-
-# Each self has an act of its own at place 1. At place 0 act 0 pays self 0 a little, and makes it self 1.
-CROSSING = [begin(2, 2), act(0, 1, 0, 0, 1), act(0, 0, 0, 0, 1), turn(0, 0, 2), act(1, 4, 0, 1, 0), act(1, 0, 4, 1, 0)]
+from houses import CROSSING
 
 
 class DoesTest(AskCase):

@@ -1,6 +1,5 @@
 from asking import LARGEST, AskCase, act, begin, does, go, lock, stand, turn, unact, who
-
-CROSSING = [begin(2, 2), act(0, 1, 0, 0, 1), act(0, 0, 0, 0, 1), turn(0, 0, 2), act(1, 4, 0, 1, 0), act(1, 0, 4, 1, 0)]
+from houses import CROSSING
 
 
 class GoTest(AskCase):

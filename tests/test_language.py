@@ -25,6 +25,13 @@ METHODS = set("""
 NOT_SAID = re.compile(r"\b(type|typing|typing_extensions|enum|Enum|IntEnum|StrEnum|Flag|IntFlag|Generic|Protocol|ABC|"
                       r"ABCMeta|namedtuple|NamedTuple|TypedDict|TYPE_CHECKING|abstractmethod)\b|"
                       r"dataclass|overload|contextmanager")
+WALKED = {"range", "enumerate", "zip", "reversed", "items", "keys", "values"}
+WALKERS = {"list", "tuple", "dict", "sorted", "sum", "any", "all", "enumerate", "zip", "min", "max"}
+NOT_NAMED = set("""
+    register mro elements open input version_info with_traceback add_note attrgetter breakpoint builtins compile
+    copyright credits delattr dir eval exec exit gc getattr globals hasattr help id importlib license locals
+    methodcaller os quit setattr super vars sys format format_map chr
+""".split())
 PYTHONS_OWN = {name for kind in (str, int, list, dict, set, bytes, tuple) for name in vars(kind)}
 
 
@@ -105,6 +112,48 @@ class LanguageTest(unittest.TestCase):
             for node in nodes(tree, ast.Attribute):
                 if node not in called:
                     self.assertNotIn(node.attr, PYTHONS_OWN, f"{stem}, line {node.lineno}")
+
+    def test_names_that_are_not_used(self):
+        for stem, tree in self.trees.items():
+            said = [node.id for node in nodes(tree, ast.Name)] + [node.attr for node in nodes(tree, ast.Attribute)]
+            said += [node.arg for node in nodes(tree, ast.arg)]
+            said += [node.name for node in nodes(tree, ast.FunctionDef, ast.ClassDef)]
+            self.assertEqual(set(said) & NOT_NAMED, set(), stem)
+
+    def test_what_is_walked_is_walked_on_the_spot(self):
+        for stem, tree in self.trees.items():
+            walked = [node.iter for node in nodes(tree, ast.For, ast.comprehension)]
+            for node in nodes(tree, ast.Call):
+                if getattr(node.func, "id", "") in WALKERS:
+                    walked += node.args[:1]
+            for node in nodes(tree, ast.Call):
+                if getattr(node.func, "id", getattr(node.func, "attr", "")) in WALKED:
+                    self.assertIn(node, walked, f"{stem}, line {node.lineno}")
+
+    def test_is_and_annotations_and_sets(self):
+        for stem, tree in self.trees.items():
+            for node in nodes(tree, ast.Compare):
+                if any(isinstance(op, (ast.Is, ast.IsNot)) for op in node.ops):
+                    self.assertIn(ast.unparse(node.comparators[-1]), ("None", "True", "False"), stem)
+            for node in nodes(tree, ast.FunctionDef, ast.arg):
+                self.assertIsNone(getattr(node, "returns", getattr(node, "annotation", None)), stem)
+            for node in nodes(tree, ast.Name):
+                self.assertNotIn(node.id, ("set", "frozenset"), f"{stem}, line {node.lineno}")
+
+    def test_classes_are_plain(self):
+        for stem, tree in self.trees.items():
+            for node in nodes(tree, ast.ClassDef):
+                self.assertIn(node, tree.body)
+                self.assertEqual((node.decorator_list, node.bases, node.keywords), ([], [], []))
+                defs = [inner for inner in node.body if not isinstance(inner, ast.Expr)]
+                self.assertEqual([inner.name for inner in defs], ["__init__"], stem)
+                self.assertEqual(nodes(defs[0], ast.Return), [])
+
+    def test_every_import_is_used(self):
+        for stem, tree in self.trees.items():
+            used = [node.id for node in nodes(tree, ast.Name)]
+            for module, name in imported(tree):
+                self.assertIn(name, used, stem)
 
     def test_imports(self):
         drawn = {}
